@@ -1,0 +1,1 @@
+"""Quietsmith: great numbers, compiled to machine code that keeps secrets."""

@@ -1,0 +1,37 @@
+"""The operations on words."""
+
+WORD = 65536
+
+
+def combine(name, a, b, carry):
+    """Returns the word and the carry after the operation with this name."""
+    if name in ("add", "addc"):
+        total = a + b + (carry if name == "addc" else 0)
+        return (total % WORD, 1 if total >= WORD else 0)
+    if name in ("sub", "subc"):
+        rest = a - b - (carry if name == "subc" else 0)
+        return (rest % WORD, 1 if rest < 0 else 0)
+    return (plain(name, a, b), carry)
+
+
+def plain(name, a, b):
+    """Returns the word of an operation that leaves the carry as it is."""
+    if name == "mul":
+        return a * b % WORD
+    if name == "high":
+        return a * b // WORD
+    if name == "div":
+        return a // b if b != 0 else WORD - 1
+    if name == "and":
+        return a & b
+    if name == "or":
+        return a | b
+    if name == "xor":
+        return a ^ b
+    if name == "less":
+        return 1 if a < b else 0
+    if name == "down":
+        return a >> b
+    if name == "up":
+        return (a << b) % WORD
+    return a >> (b % 16)
