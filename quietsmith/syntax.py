@@ -3,7 +3,7 @@
 from quietsmith.errors import BadProgram, BadText
 from quietsmith.expressions import PARTS, RANGES, SIGNS
 from quietsmith.forms import DEEPEST, LAST_TURN, check_shape
-from quietsmith.tokens import Tokens, is_digit
+from quietsmith.tokens import Tokens
 from quietsmith.values import FLOWS, GREATEST_SIZE, MOST, is_name
 
 LONGEST_TEXT = 8000
@@ -28,31 +28,31 @@ def read_function(tokens):
     """Reads a function."""
     tokens.need("fun")
     name = tokens.name()
-    params = read_listed(tokens, read_variable, 0)
+    params = read_listed(tokens, read_variable)
     tokens.need("to")
-    results = read_listed(tokens, read_variable, 0)
+    results = read_listed(tokens, read_variable)
     tokens.need("{")
     others = []
     while tokens.take_if("var"):
-        others.append(read_variable(tokens, 0))
+        others.append(read_variable(tokens))
         tokens.need(";")
     return (name, params, results, tuple(others), read_statements(tokens, 1))
 
 
-def read_listed(tokens, read, depth):
+def read_listed(tokens, read):
     """Reads things in parentheses with commas between them, each by the function that is given."""
     tokens.need("(")
     if tokens.take_if(")"):
         return ()
-    things = [read(tokens, depth)]
+    things = [read(tokens)]
     while tokens.take_if(","):
-        things.append(read(tokens, depth))
+        things.append(read(tokens))
     tokens.need(")")
     return tuple(things)
 
 
-def read_variable(tokens, _):
-    """Reads a variable, which has no depth."""
+def read_variable(tokens):
+    """Reads a variable."""
     if tokens.peek() not in FLOWS:
         tokens.refuse()
     flow = tokens.take()
@@ -65,8 +65,8 @@ def read_variable(tokens, _):
     return (name, flow, most, size)
 
 
-def read_target(tokens, _):
-    """Reads a target of a call, which has no depth."""
+def read_target(tokens):
+    """Reads a target of a call."""
     return tokens.name()
 
 
@@ -119,10 +119,10 @@ def read_if(tokens, depth):
 
 def read_call(tokens, depth):
     """Reads a call."""
-    targets = read_listed(tokens, read_target, depth + 1)
+    targets = read_listed(tokens, read_target)
     tokens.need("=")
     name = tokens.name()
-    arguments = read_listed(tokens, read_expression, depth + 1)
+    arguments = read_listed(tokens, lambda rest: read_expression(rest, depth + 1))
     tokens.need(";")
     return ("call", targets, name, arguments)
 
@@ -153,8 +153,6 @@ def read_expression(tokens, depth):
         return read_worded(tokens, depth)
     if is_name(token):
         return read_named(tokens, depth)
-    if token == "" or not is_digit(token[0]):
-        tokens.refuse()
     return ("int", tokens.number(0, MOST))
 
 

@@ -35,23 +35,25 @@ def token_at(text, start):
 
 def name_at(text, start):
     """Returns the name or the reserved name that begins at the index."""
-    end = start
-    while end < len(text) and is_letter(text[end]):
-        end += 1
-    if end - start > LONGEST_NAME:
+    token = run_at(text, start, is_letter)
+    if len(token) > LONGEST_NAME:
         raise BadText(start)
-    return text[start:end]
+    return token
 
 
 def number_at(text, start):
     """Returns the number that begins at the index."""
+    token = run_at(text, start, is_digit)
+    if len(token) > LONGEST_NUMBER or (len(token) > 1 and token[0] == "0"):
+        raise BadText(start)
+    return token
+
+
+def run_at(text, start, fits):
+    """Returns the longest run of characters that fit, from the index on."""
     end = start
-    while end < len(text) and is_digit(text[end]):
+    while end < len(text) and fits(text[end]):
         end += 1
-    if end - start > LONGEST_NUMBER:
-        raise BadText(start)
-    if end - start > 1 and text[start] == "0":
-        raise BadText(start)
     return text[start:end]
 
 

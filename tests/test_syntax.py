@@ -7,7 +7,7 @@ from quietsmith.printing import program_text
 from quietsmith.syntax import parse_program
 from quietsmith.values import MOST
 from tests.helpers import (
-    ONE, X, Y, deep_expression, deep_statement, letters, program_of, refusal, text_of,
+    ONE, SET, X, Y, deep_expression, deep_statement, letters, program_of, refusal, text_of,
 )
 from tests.making import Maker
 from tests.test_printing import EXPRESSIONS, STATEMENTS
@@ -285,6 +285,31 @@ class SyntaxTest(unittest.TestCase):
         for statement in ("loop z 0 to 1 { @y = 1; }", "loop z 0 to 1 { @loop", "loop z 0 to 1 { @(",
                           "loop z 0 to 1 { @5"):
             self.body_wrong_at(before + statement + after)
+
+    def test_greatest_depth_in_each_place(self):
+        """Statements of the depth 15, with expressions and statements of the depth 16."""
+        before = "".join(f"loop {letters(at)} 0 to 0 {{ " for at in range(14))
+        after = "} " * 14
+        for statement in ("y = 1;", "y[1] = 2;", "if 1 { } else { }", "(y) = g(1, 2);",
+                          "if y { loop z 0 to 1 { } } else { (y) = g(); }"):
+            program = parse_program(text_of(before + statement + after))
+            self.assertEqual(program_text(program).count("loop v"), 14)
+        for statement in ("y = low(@1, 2);", "y[y[@1]] = 2;", "if (@1 + 1) { } else { }", "(y) = g(1, y[@2]);",
+                          "if y { y = @1; } else { }", "if y { } else { y = @1; }", "if y { if @y",
+                          "if y { } else { if @y", "if y { y[@1", "if y { } else { (y) = g(@"):
+            self.body_wrong_at(before + statement + after)
+
+    def test_depth_within_ifs(self):
+        for inner in ((), (SET,)):
+            made = ("loop", "k", 0, 0, inner)
+            for level in range(15):
+                made = ("if", ONE, (), (made,)) if level % 2 else ("if", ONE, (made,), ())
+            program = program_of(made)
+            text = program_text(program)
+            if inner:
+                self.wrong(text, text.index("y = 1"))
+            else:
+                self.right(text, program)
 
     def test_depth_of_parts(self):
         """Expressions of the depths 15 and 16, with operands that are too deep."""
