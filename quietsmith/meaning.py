@@ -20,53 +20,59 @@ def run_function(function, values, functions):
     known = {param[0]: value for param, value in zip(params, values)}
     for variable in results + others:
         known[variable[0]] = zero_value(variable)
-    run_body(body, known, functions)
-    return tuple([known[result[0]] for result in results])
+    frame = Frame(known, functions)
+    frame.body(body)
+    return tuple([frame.known[result[0]] for result in results])
 
 
-def run_body(body, known, functions):
-    """Does the statements of a body; known has the values of the variables."""
-    for statement in body:
-        run_statement(statement, known, functions)
+class Frame:
+    """The variables of one call of a function, with their values."""
 
+    def __init__(self, known, functions):
+        self.known = known
+        self.functions = functions
 
-def run_statement(statement, known, functions):
-    """Does a statement."""
-    head = statement[0]
-    if head == "set":
-        known[statement[1]] = value_of(statement[2], known)
-    elif head == "put":
-        _, name, place, value = statement
-        index = value_of(place, known)
-        row = known[name]
-        known[name] = row[:index] + (value_of(value, known),) + row[index + 1:]
-    elif head == "loop":
-        _, name, first, last, body = statement
-        # Empty turns cost no work, so there can be millions of them.
-        if len(body) > 0:
-            for turn in range(first, last + 1):
-                known[name] = turn
-                run_body(body, known, functions)
-    elif head == "if":
-        _, condition, body, other = statement
-        run_body(body if value_of(condition, known) != 0 else other, known, functions)
-    else:
-        _, targets, name, arguments = statement
-        values = tuple([value_of(argument, known) for argument in arguments])
-        outcomes = run_function(functions[name], values, functions)
-        for target, outcome in zip(targets, outcomes):
-            known[target] = outcome
+    def body(self, body):
+        """Does the statements of a body."""
+        for statement in body:
+            self.statement(statement)
 
+    def statement(self, statement):
+        """Does a statement."""
+        head = statement[0]
+        if head == "set":
+            self.known[statement[1]] = self.value(statement[2])
+        elif head == "put":
+            _, name, place, value = statement
+            index = self.value(place)
+            row = self.known[name]
+            self.known[name] = row[:index] + (self.value(value),) + row[index + 1:]
+        elif head == "loop":
+            _, name, first, last, body = statement
+            # Empty turns cost no work, so there can be millions of them.
+            if len(body) > 0:
+                for turn in range(first, last + 1):
+                    self.known[name] = turn
+                    self.body(body)
+        elif head == "if":
+            _, condition, body, other = statement
+            self.body(body if self.value(condition) != 0 else other)
+        else:
+            _, targets, name, arguments = statement
+            values = [self.value(argument) for argument in arguments]
+            outcomes = run_function(self.functions[name], values, self.functions)
+            for target, outcome in zip(targets, outcomes):
+                self.known[target] = outcome
 
-def value_of(expression, known):
-    """Returns the value of an expression; that of an array is a tuple."""
-    head = expression[0]
-    if head == "int":
-        return expression[1]
-    if head == "name":
-        return known[expression[1]]
-    if head == "item":
-        index = value_of(expression[2], known)
-        return known[expression[1]][index]
-    values = [value_of(operand, known) for operand in operands(expression)]
-    return result_of(head, values, number_of(expression))
+    def value(self, expression):
+        """Returns the value of an expression; that of an array is a tuple."""
+        head = expression[0]
+        if head == "int":
+            return expression[1]
+        if head == "name":
+            return self.known[expression[1]]
+        if head == "item":
+            index = self.value(expression[2])
+            return self.known[expression[1]][index]
+        values = [self.value(operand) for operand in operands(expression)]
+        return result_of(head, values, number_of(expression))
