@@ -35,3 +35,22 @@ def plain(name, a, b):
     if name == "up":
         return (a << b) % WORD
     return a >> (b % 16)
+
+
+def outcome(instruction, words, carry):
+    """Returns the word that an instruction gives its register, and the carry behind it.
+
+    The words of the registers stand in a list or a dict. It takes each instruction
+    that gives a register a value, but for `load`.
+    """
+    name = instruction[0]
+    if name == "set":
+        return (instruction[2], carry)
+    if name == "carry":
+        return (carry, carry)
+    first = words[instruction[2]]
+    if name == "move":
+        return (first, carry)
+    if name in ("down", "up"):
+        return (plain(name, first, instruction[3]), carry)
+    return combine(name, first, words[instruction[3]], carry)
