@@ -19,10 +19,34 @@ FUNCTIONS = {
     "checker": {"check_program": ["program"]},
     "meaning": {"run_program": ["program", "inputs"]},
     "words": {"combine": ["name", "a", "b", "carry"]},
+    "instructions": {"is_instruction": ["value"], "is_code": ["value"], "targets": ["instruction"]},
+    "layouts": {"is_layout": ["value"], "is_code_file": ["value"], "layout_end": ["layout"],
+                "region_at": ["layout", "address"], "is_memory": ["layout", "value"]},
+    "costs": {"base_cycles": ["name"]},
+    "listing": {"code_text": ["code_file"], "parse_code": ["text"]},
+    "limbs": {"words_of": ["n"], "run_rows": ["rows", "known"]},
+    "compiler": {"compile_program": ["program"]},
+    "running": {"load": ["program", "binary", "values"], "outputs_of": ["program", "binary", "memory"],
+                "run_compiled": ["program", "values", "limit"]},
 }
 CLASSES = {
     "errors": {"QuietError": None, "BadProgram": ["reason"], "BadText": ["index"], "BadInput": [],
                "BadCode": ["index", "reason"], "BadRun": ["reason"], "BadScript": ["line", "reason"]},
+    "costs": {"Cache": [], "Predictor": []},
+    "machine": {"Machine": ["code_file", "memory"]},
+    "limbs": {"Block": ["first"]},
+}
+METHODS = {
+    ("costs", "Cache"): {"access": ["address"], "lines": []},
+    ("costs", "Predictor"): {"branch": ["place", "jumps"], "counters": []},
+    ("machine", "Machine"): {
+        "step": [], "run": ["limit"], "ended": [], "place": [], "cycles": [], "carry": [], "registers": [],
+        "memory": [], "stack": [], "shown": []},
+    ("limbs", "Block"): {
+        "constant": ["n", "count"], "add": ["a", "b", "count"], "sub": ["a", "b", "count"], "mul": ["a", "b", "count"],
+        "both": ["head", "a", "b"], "down": ["a", "k", "count"], "up": ["a", "k", "count"], "low": ["a", "k", "count"],
+        "less": ["a", "b"], "same": ["a", "b"], "bit": ["a", "r"], "pick": ["r", "a", "b"], "addmod": ["a", "b", "m"],
+        "submod": ["a", "b", "m"], "mulmod": ["a", "b", "m"], "rows": []},
 }
 
 
@@ -50,6 +74,31 @@ class InterfaceTest(unittest.TestCase):
                 self.assertIn(name, defined(module))
                 if arguments is not None:
                     self.assertEqual(named_arguments(getattr(loaded, name)), arguments, name)
+
+    def test_methods(self):
+        for (module, name), methods in METHODS.items():
+            kind = getattr(importlib.import_module("quietsmith." + module), name)
+            for method, arguments in methods.items():
+                self.assertIn(method, vars(kind))
+                self.assertEqual(named_arguments(vars(kind)[method]), ["self"] + arguments, method)
+
+    def test_examples_of_the_machine(self):
+        from quietsmith.limbs import Block, run_rows
+        from quietsmith.listing import parse_code
+        from quietsmith.machine import Machine
+        machine = Machine((((0, 2, "secret", 65535),), (
+            ("load", 3, 0, 1), ("add", 3, 3, 3), ("store", 3, 0, 0), ("halt",))), [7, 40000])
+        self.assertEqual(machine.run(10), 4)
+        self.assertEqual(machine.memory(), [14464, 40000])
+        self.assertEqual(machine.shown(), [(0, 1, 7), (1, -1, 8), (2, 0, 10), (3, -1, 11)])
+        self.assertEqual(parse_code("region 4 2 public 9\nbelow 1 10 0\nhalt"),
+                         (((4, 2, 'public', 9),), (('below', 1, 10, 0), ('halt',))))
+        with self.assertRaises(BadText):
+            parse_code("set 1 07")
+        block = Block(10)
+        r = block.add((0, 1), (2,), 2)
+        known = run_rows(block.rows(), {0: 65535, 1: 3, 2: 1})
+        self.assertEqual([known[k] for k in r], [0, 4])
 
     def test_examples(self):
         from quietsmith.meaning import run_program

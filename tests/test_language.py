@@ -172,6 +172,32 @@ class LanguageTest(unittest.TestCase):
                 if isinstance(node, ast.Call) and isinstance(node.func, ast.Attribute):
                     self.assertIn(node.func.attr, list(own) + METHODS, (file, node.lineno))
 
+    def test_methods_and_attributes(self):
+        """No method or attribute is called like one of the builtin values, but for those that L26 lists."""
+        taken = {name for kind in (str, int, list, dict, set, bytes) for name in dir(kind)}
+        methods = {}
+        attributes = set()
+        for file in FILES:
+            for node in ast.walk(tree_of(file)):
+                if isinstance(node, ast.ClassDef):
+                    for method in node.body:
+                        if isinstance(method, ast.FunctionDef) and method.name != "__init__":
+                            methods.setdefault(method.name, []).append(node.name)
+                if isinstance(node, ast.Attribute) and isinstance(node.ctx, ast.Store):
+                    attributes.add(node.attr)
+        self.assertEqual(taken & set(methods), {"add"})
+        self.assertEqual(taken & attributes, {"index"})
+        self.assertEqual(attributes & set(methods), set())
+
+    def test_stored_sets(self):
+        """Block.add is a method, so L24 lets no set have `add`: no set is stored at all."""
+        for file in FILES:
+            for node in ast.walk(tree_of(file)):
+                if isinstance(node, ast.Assign):
+                    self.assertNotIsInstance(node.value, (ast.Set, ast.SetComp), (file, node.lineno))
+                    if isinstance(node.value, ast.Call) and isinstance(node.value.func, ast.Name):
+                        self.assertNotEqual(node.value.func.id, "set", (file, node.lineno))
+
     def test_strings(self):
         for file in FILES:
             tree = tree_of(file)
