@@ -68,9 +68,25 @@ class Programs:
 
     def function(self, name):
         params, results, others = self.variables(0, 4), self.variables(1, 3), self.variables(0, 3)
+        if self.before:
+            others += self.partners(self.random.choice(self.before))[:12 - len(others)]
         self.known = {variable[0]: variable for variable in params + results + others}
         self.turning = []
         return (name, params, results, others, self.body(1, self.random.randint(1, 5)))
+
+    def partners(self, function):
+        """Variables that can be targets and arguments of calls of a function."""
+        made = []
+        for _, flow, most, size in function[2]:
+            self.counter += 1
+            wider = max(most, self.random.choice((0, self.number())))
+            made.append((letters(self.counter), self.random.choice((flow, "secret")), wider, size))
+        for _, flow, most, size in function[1]:
+            self.counter += 1
+            if size > 0:
+                narrower = min(most, self.random.choice((most, self.number())))
+                made.append((letters(self.counter), self.random.choice((flow, "public")), narrower, size))
+        return tuple(made)
 
     def body(self, depth, count):
         return tuple(self.statement(depth) for _ in range(count))

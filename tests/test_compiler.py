@@ -193,6 +193,25 @@ class CompilerTest(CompiledCase):
         for q in ((1, 3, 0, 2), (0, 0, 0, 0), (3, 3, 3, 3), (3, 2, 1, 0)):
             self.agrees(program, (q, 1, (1, 2, 3, 4)), (q, 1, (MOST, 0, MOST - 1, 2 ** 100)))
 
+    def test_public_numbers_that_are_kept_meanwhile(self):
+        """Great public numbers need more registers than there are, and still give indices and conditions."""
+        m = 2 ** 256 - 189
+        program = read(
+            f"y = (mulmod(s, b, {m}) ^ x[low(mulmod(a, b, {m}), 2)]); x[(mulmod(a, b, {m}) >> 254)] = s; "
+            f"if (mulmod(a, a, {m}) >> 255) {{ z = low(a, 8); }} else {{ z = bit(s, low(mulmod(b, b, {m}), 8)); }}",
+            params=f"public a {m - 1}, public b {m - 1}, secret s {m - 1}, secret x {m - 1} [4]",
+            results=f"secret y {MOST}, secret z 255")
+        for a, b in ((0, 0), (m - 1, m - 1), (m - 1, m // 3), (m // 5, m // 7)):
+            self.agrees(program, (a, b, 0, (1, 2, 3, 4)), (a, b, m - 1, (m - 1, 0, 2 ** 100, 7)))
+
+    def test_public_and_secret_carries(self):
+        """A carry that depends on a secret gets into no public number."""
+        program = read("y = ((s + s) + x[low(((a + a) >> 33), 1)]); p = (a + a); z = x[((a < b) ^ (b < a))];",
+                       params=f"public a {2 ** 33}, public b {2 ** 33}, secret s {2 ** 33}, secret x 9 [2]",
+                       results=f"secret y {2 ** 36}, public p {2 ** 34}, secret z 9")
+        for a, b in ((0, 0), (2 ** 33, 5), (2 ** 32, 2 ** 33), (65535, 65536)):
+            self.agrees(program, (a, b, 0, (8, 9)), (a, b, 2 ** 33, (9, 8)), (a, b, 2 ** 32 - 1, (0, 1)))
+
     def test_calls_in_calls(self):
         functions = ["fun fa(secret x 9) to (secret y 9) { y = low((x + 1), 3); }"]
         for before, name in zip("abcdefg", "bcdefgh"):

@@ -6,7 +6,7 @@ from quietsmith.errors import BadInput
 from quietsmith.meaning import run_program
 from quietsmith.syntax import parse_program
 from quietsmith.values import MOST
-from tests.helpers import read, refusal
+from tests.helpers import WRONG_INPUTS, read, refusal
 
 BIG = 2 ** 255
 
@@ -197,13 +197,7 @@ class MeaningTest(unittest.TestCase):
         program = read("y = x;", params="secret x 9, public r 5 [2], secret z 0")
         self.gives(program, (9, (0, 5), 0), (9,))
         self.gives(program, (0, (5, 0), 0), (0,))
-        for inputs in (
-            (), (9,), (9, (0, 5)), (9, (0, 5), 0, 0), (10, (0, 5), 0), (-1, (0, 5), 0), (9, (0, 6), 0),
-            (9, (6, 0), 0), (9, (-1, 0), 0), (9, (0,), 0), (9, (0, 0, 0), 0), (9, (), 0), (9, 0, 0),
-            (9, [0, 5], 0), ((9,), (0, 5), 0), (True, (0, 5), 0), (9, (True, 5), 0), (9, (0, False), 0),
-            (9, (0, 5), False), (9, (0, 5), 1), ("9", (0, 5), 0), (None, (0, 5), 0), (9, None, 0),
-            [9, (0, 5), 0], None, 9, "9", {}, (9, (0, "5"), 0), ((0, 5), 9, 0),
-        ):
+        for inputs in WRONG_INPUTS:
             self.refused(program, inputs)
 
     def test_no_inputs(self):

@@ -9,7 +9,7 @@ from quietsmith.machine import Machine
 from quietsmith.meaning import run_program
 from quietsmith.running import load, outputs_of, run_compiled
 from quietsmith.values import MOST
-from tests.helpers import read, refusal
+from tests.helpers import WRONG_INPUTS, read, refusal
 from tests.programs import Programs
 
 SIMPLE = read("y = x;", params="secret x 9, public r 5 [2], secret z 0")
@@ -48,13 +48,7 @@ class LoadTest(unittest.TestCase):
 
     def test_wrong_inputs(self):
         binary = compile_program(SIMPLE)
-        for inputs in (
-            (), (9,), (9, (0, 5)), (9, (0, 5), 0, 0), (10, (0, 5), 0), (-1, (0, 5), 0), (9, (0, 6), 0),
-            (9, (6, 0), 0), (9, (-1, 0), 0), (9, (0,), 0), (9, (0, 0, 0), 0), (9, (), 0), (9, 0, 0),
-            (9, [0, 5], 0), ((9,), (0, 5), 0), (True, (0, 5), 0), (9, (True, 5), 0), (9, (0, False), 0),
-            (9, (0, 5), False), (9, (0, 5), 1), ("9", (0, 5), 0), (None, (0, 5), 0), (9, None, 0),
-            [9, (0, 5), 0], None, 9, "9", {}, (9, (0, "5"), 0), ((0, 5), 9, 0),
-        ):
+        for inputs in WRONG_INPUTS:
             self.assertIsNotNone(refusal(BadInput, load, SIMPLE, binary, inputs), inputs)
             self.assertIsNotNone(refusal(BadInput, run_compiled, SIMPLE, inputs, 1000), inputs)
             self.assertIsNotNone(refusal(BadInput, run_compiled, SIMPLE, inputs, 0), inputs)
