@@ -106,7 +106,7 @@ class Sheet:
             number = number_of(expression)
         most = greatest_of(head, [greatest for _, greatest in parts], number)
         count = words_of(most)
-        words = operate(self.block, head, [words for words, _ in parts], number, count)
+        words = operate(self.block, head, [part for part, _ in parts], number, count)
         return (words[:count], most)
 
     def store(self, spot, item, words):

@@ -143,7 +143,7 @@ class CompilerTest(CompiledCase):
         text = (
             "fun g(secret a 9) to (secret y 9, secret w 99999 [9]) { var secret t 9; var secret u 9 [3]; var public v 70000; "
             "y = low((t + ((y + a) + (u[1] + v))), 3); t = 5; u[1] = 6; w[8] = low((w[8] + a), 9); "
-            "w[low(v, 3)] = 5; v = 70000; } "
+            "w[low(v, 3)] = 5; v = 69999; } "
             "fun f() to (secret y 9, secret a 15, secret w 99999 [9]) { var secret t 9; t = 6; a = 7; "
             "(y, w) = g(2); (y, w) = g(3); loop k 1 to 3 { (y, w) = g(k); } a = low((a + t), 4); }")
         self.text_agrees(text, ())
@@ -313,6 +313,47 @@ class SizesTest(CompiledCase):
         arrays = ", ".join(f"secret {letters(at)} {MOST} [64]" for at in range(3))
         self.agrees(read("y = vb[5];", results=f"secret y {MOST}", params=arrays),
                     ((0,) * 64, (7,) * 64, (MOST,) * 64), ((1,) * 64, (MOST,) * 64, (MOST,) * 64))
+
+    def test_just_enough_words(self):
+        arrays = ", ".join(f"secret {letters(at)} {MOST} [{size}]" for at, size in enumerate((64, 64, 64, 63)))
+        program = read("y = vb[5];", results=f"secret y {MOST}", params=arrays)
+        binary = self.agrees(program, tuple((at,) * size for at, size in enumerate((64, 64, 64, 63))))
+        self.assertEqual(layout_end(binary[0]), 4096)
+        self.large(read("y = vb[5];", results=f"secret y {MOST}, public z 0", params=arrays))
+        self.large(read("y = mulmod(low(vb[5], 250), low(vb[5], 250), " + str(MOST) + ");", results=f"secret y {MOST}",
+                        params=arrays))
+
+    def test_too_many_regions(self):
+        """Loops with different ends need regions of their own."""
+        def nests(count):
+            return " ".join(self.nest(start, min(13, count - start)) for start in range(0, count, 13))
+        for count in (13, 254, 255):
+            binary = self.agrees(read(nests(count), results="secret y 1023"), ())
+            self.assertEqual(len(binary[0]), count + 1)
+        self.large(read(nests(256), results="secret y 1023"))
+        self.large(read(nests(255), results="secret y 1023, public z 5"))
+
+    def nest(self, start, count):
+        """So many loops within one another, of one turn each."""
+        heads = "".join(f"loop {letters(at)} {start + at} to {start + at} {{ " for at in range(count))
+        return heads + f"y = (y ^ {letters(count - 1)}); " + "} " * count
+
+    def test_just_enough_instructions(self):
+        """A program grows by the code of its statements: somewhere on this way it becomes too large."""
+        m = 2 ** 200 - 75
+        sizes = []
+        for count in range(1, 16):
+            body = " ".join(["z = mulmod(z, x, %d);" % m] * count)
+            program = read(body, params=f"secret x {m - 1}", results=f"secret z {m - 1}")
+            try:
+                sizes.append(len(compile_program(program)[1]))
+            except BadCode as error:
+                self.assertEqual((error.index, error.reason), (0, "large"))
+                sizes.append(None)
+        fitting = [size for size in sizes if size is not None]
+        self.assertEqual(sizes, fitting + [None] * (len(sizes) - len(fitting)))
+        self.assertGreater(20000, fitting[-1])
+        self.assertGreater(2 * fitting[-1] - fitting[-2], 20000)
 
     def test_many_small_variables(self):
         """Many variables need no more regions than few."""
