@@ -138,6 +138,17 @@ class CompilerTest(CompiledCase):
         self.text_agrees(text, (3, 4), (9, 9), (0, 0), (0, 9))
         self.text_agrees(text.replace("g(x, a)", "g((x & 1), 6)"), (3, 4), (2, 4))
 
+    def test_great_numbers_in_calls(self):
+        """Params, results and targets of several words, also with more words on the other side."""
+        for inner, outer in ((70000, 70000), (MOST, MOST), (9, MOST), (2 ** 40, 2 ** 100)):
+            text = (
+                f"fun g(secret a {outer}, public b {outer}) to (secret s {inner}, secret t {outer}, public u {outer}) "
+                f"{{ s = low(a, {inner.bit_length() - 1}); t = a; u = b; }} "
+                f"fun f(secret x {inner}, public k {inner}) to (secret y {outer}, secret z {outer}, public w {outer}) "
+                "{ (y, z, w) = g(x, k); (z, y, w) = g(y, w); }")
+            for k in (0, inner):
+                self.text_agrees(text, (0, k), (inner, k), (inner // 3, k))
+
     def test_variables_of_calls(self):
         """Each call begins with variables of its own, which are 0 unless they are params."""
         text = (
