@@ -6,8 +6,9 @@ its word is stored in a spare word of the memory, if it is not to be had otherwi
 """
 
 from quietsmith.assembly import ZERO
-from quietsmith.needs import CARRYING, CHAINED, SHIFTS, WITHOUT_RESULT, later_reads, needed_rows, reads
+from quietsmith.needs import WITHOUT_RESULT, later_reads, needed_rows, reads
 from quietsmith.plans import PUBLIC, SECRET, flow_of
+from quietsmith.words import CARRYING, CHAINED, SHIFTS
 
 PLACE = 15
 LAST_SEAT = 14

@@ -2,7 +2,7 @@
 
 from quietsmith.errors import BadProgram
 from quietsmith.expressions import MODULAR, greatest_of, number_of, operands
-from quietsmith.values import MOST
+from quietsmith.values import MOST, joined_flow
 from quietsmith.work import work_of_body
 
 MOST_WORK = 20000
@@ -21,11 +21,6 @@ def check_program(program):
             raise BadProgram("work")
         before[name] = function
     return program
-
-
-def joined_flow(flows):
-    """Returns the flow of an expression with operands of these flows."""
-    return "secret" if "secret" in flows else "public"
 
 
 def need_range(most, greatest):

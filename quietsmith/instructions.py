@@ -37,6 +37,11 @@ NUMBERS = {
 # The greatest number for each letter.
 GREATEST = {"r": 15, "n": 65535, "k": 15, "d": 4095, "p": 19999}
 
+# The names of the instructions that give no register a value.
+GIVES_NOTHING = ("clear", "store", "jump", "below", "call", "ret", "halt")
+# The names of those that never go on to the next place.
+GOES_AWAY = ("jump", "ret", "halt")
+
 
 def is_instruction(value):
     """Tells whether the value is an instruction."""
@@ -62,3 +67,10 @@ def targets(instruction):
     if NUMBERS[instruction[0]].endswith("p"):
         return [instruction[-1]]
     return []
+
+
+def given_register(instruction):
+    """Returns the register that the instruction gives a value, or -1 if there is none."""
+    if instruction[0] in GIVES_NOTHING:
+        return -1
+    return instruction[1]

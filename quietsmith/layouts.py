@@ -49,10 +49,18 @@ def layout_end(layout):
 
 def region_at(layout, address):
     """Returns the index of the region that has the address, or -1 if there is none."""
-    for index, region in enumerate(layout):
-        if region[0] <= address < region_end(region):
-            return index
-    return -1
+    # The regions stand in the order of their addresses: halving finds the last one that starts early enough.
+    low = 0
+    high = len(layout)
+    while low < high:
+        middle = (low + high) // 2
+        if layout[middle][0] <= address:
+            low = middle + 1
+        else:
+            high = middle
+    if low == 0 or address >= region_end(layout[low - 1]):
+        return -1
+    return low - 1
 
 
 def is_memory(layout, value):

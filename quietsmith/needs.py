@@ -1,8 +1,7 @@
 """What the rows of a sheet read, and which of them are needed."""
 
-CHAINED = ("addc", "subc")
-CARRYING = ("add", "addc", "sub", "subc")
-SHIFTS = ("down", "up")
+from quietsmith.words import CARRYING, CHAINED, SHIFTS
+
 # The rows that set no register which other rows can read.
 WITHOUT_RESULT = ("mask", "scale", "hold", "give", "aim", "test")
 

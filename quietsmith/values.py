@@ -59,3 +59,8 @@ def zero_value(variable):
     if size == 0:
         return 0
     return (0,) * size
+
+
+def joined_flow(flows):
+    """Returns the flow of what depends on things of these flows."""
+    return "secret" if "secret" in flows else "public"

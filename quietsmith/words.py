@@ -2,6 +2,11 @@
 
 WORD = 65536
 
+# The operations that give the carry a value, those that read it, and those of a word and a number.
+CARRYING = ("add", "addc", "sub", "subc")
+CHAINED = ("addc", "subc")
+SHIFTS = ("down", "up")
+
 
 def combine(name, a, b, carry):
     """Returns the word and the carry after the operation with this name."""
@@ -51,6 +56,6 @@ def outcome(instruction, words, carry):
     first = words[instruction[2]]
     if name == "move":
         return (first, carry)
-    if name in ("down", "up"):
+    if name in SHIFTS:
         return (plain(name, first, instruction[3]), carry)
     return combine(name, first, words[instruction[3]], carry)

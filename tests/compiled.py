@@ -2,17 +2,21 @@
 
 import unittest
 
+from quietsmith.annotate import annotate
 from quietsmith.checker import check_program
 from quietsmith.compiler import compile_program
 from quietsmith.forms import check_shape
+from quietsmith.judge import judge
 from quietsmith.layouts import is_code_file, is_memory, region_at
 from quietsmith.limbs import words_of
 from quietsmith.machine import Machine
 from quietsmith.meaning import run_program
 from quietsmith.running import load, outputs_of
-from tests.judging import judge
+from tests import judging
 
 STEPS = 3000000
+# Up to this many instructions, the second writing of the judge is asked too, which is slow.
+FEW = 600
 
 
 def run(program, binary, inputs):
@@ -39,6 +43,13 @@ class CompiledCase(unittest.TestCase):
         self.assertEqual(len(taken), len(set(taken)))
         return binary
 
+    def judged(self, code_file):
+        """The bound of a code, which the judge takes."""
+        bound = judge(code_file)
+        if len(code_file[1]) <= FEW:
+            self.assertEqual(judging.check_code(code_file, annotate(code_file)), bound)
+        return bound
+
     def words(self, variable):
         return words_of(variable[2]) * max(1, variable[3])
 
@@ -56,7 +67,7 @@ class CompiledCase(unittest.TestCase):
     def agrees(self, program, *rows, judged=True):
         """The code gives what the program means, for all these inputs, and shows no more than it may."""
         binary = self.compiled(program)
-        bound = judge(binary[:2]) if judged else STEPS
+        bound = self.judged(binary[:2]) if judged else STEPS
         seen = {}
         for inputs in rows:
             memory = load(program, binary, inputs)

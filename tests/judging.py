@@ -1,4 +1,4 @@
-"""The judge of points 600 to 614, written down a second time for the tests of the compiler.
+"""The judge of points 600 to 614, written down a second time for the tests.
 
 Everything here follows the words of the document one after the other; the package does not use it.
 """
@@ -128,27 +128,29 @@ def narrowed(state, register, least, greatest):
 
 
 def goes_to(layout, code, place, state, exits):
-    """The list of the places to which an instruction goes, with the states; ret is not told here."""
+    """The list of the places to which an instruction goes, with the states, and whether it is the place
+    that the instruction names, or the next one; ret is not told here.
+    """
     instruction = code[place]
     name = instruction[0]
     if name == "jump":
-        return [(instruction[1], state)]
+        return [(instruction[1], state, True)]
     if name == "below":
         _, register, n, p = instruction
         found = []
         if state[register][1] < n:
-            found.append((p, narrowed(state, register, 0, n - 1)))
+            found.append((p, narrowed(state, register, 0, n - 1), True))
         if state[register][2] >= n:
-            found.append((place + 1, narrowed(state, register, n, 65535)))
+            found.append((place + 1, narrowed(state, register, n, 65535), False))
         return found
     if name == "call":
-        found = [(instruction[1], state)]
+        found = [(instruction[1], state, True)]
         if exits.get(instruction[1]) is not None:
-            found.append((place + 1, exits[instruction[1]]))
+            found.append((place + 1, exits[instruction[1]], False))
         return found
     if name in ("ret", "halt"):
         return []
-    return [(place + 1, next_state(layout, state, instruction))]
+    return [(place + 1, next_state(layout, state, instruction), False)]
 
 
 def named(instruction):
@@ -174,68 +176,59 @@ def reachable(code):
 
 
 class Annotator:
+    """Point 613 read slowly: it goes through the code until nothing grows."""
+
     def __init__(self, code_file):
+        self.code_file = code_file
         self.layout, self.code = code_file
-        found = {0, 65535} | {region[3] for region in self.layout}
-        for place in reachable(self.code):
-            instruction = self.code[place]
-            if instruction[0] in ("set", "below"):
-                found.add(instruction[2])
-                if instruction[0] == "below" and instruction[2] > 0:
-                    found.add(instruction[2] - 1)
+        self.numbers = sorted(numbers_of(code_file))
         size = len(self.code)
-        self.floor = []
-        self.ceiling = [0] * 65536
-        latest = 0
-        for n in range(65536):
-            latest = n if n in found else latest
-            self.floor.append(latest)
-        for n in range(65535, -1, -1):
-            latest = n if n in found else latest
-            self.ceiling[n] = latest
-        self.noted = {0} | {named(instruction) for instruction in self.code} - {None}
-        self.noted = {place for place in self.noted if place < size}
+        self.noted = {0} | {place for place in map(named, self.code) if place is not None and place < size}
         self.firsts = sorted({0} | {one[1] for one in self.code if one[0] == "call" and one[1] < size})
-        self.owner = []
-        for place in range(size):
-            starts = place in self.firsts
-            self.owner.append(place if starts else self.owner[-1])
         self.notes = {}
         self.exits = {first: None for first in self.firsts}
-        self.callers = {first: set() for first in self.firsts}
 
     def round(self, state):
-        return tuple((fact[0], self.floor[fact[1]], self.ceiling[fact[2]]) + fact[3:] for fact in state[:16]) + state[16:]
+        facts = []
+        for flow, least, greatest, cell, plus in state[:16]:
+            facts.append((flow, max(n for n in self.numbers if n <= least),
+                          min(n for n in self.numbers if n >= greatest), cell, plus))
+        return tuple(facts) + state[16:]
 
     def merge(self, table, place, state):
-        """Makes the state fit; tells whether anything has changed."""
         old = table.get(place)
-        if old is not None and state_fits(state, old):
-            return False
-        table[place] = self.round(state if old is None else union(state, old))
-        return True
+        if old is None or not state_fits(state, old):
+            table[place] = self.round(state if old is None else union(state, old))
+
+    def once(self):
+        """Goes through all places that have a state so far."""
+        states = walk_states(self.code_file, self.notes, self.exits)
+        for place, state in enumerate(states):
+            if state is None:
+                continue
+            if self.code[place][0] == "ret":
+                self.merge(self.exits, max(first for first in self.firsts if first <= place), state)
+            for following, after, _ in goes_to(self.layout, self.code, place, state, self.exits):
+                if following in self.noted:
+                    self.merge(self.notes, following, after)
 
     def work(self):
-        waiting = {0}
         self.merge(self.notes, 0, START)
-        while waiting:
-            begin = min(waiting)
-            waiting.discard(begin)
-            walk = [(begin, self.notes[begin])]
-            while walk:
-                place, state = walk.pop()
-                instruction = self.code[place]
-                if instruction[0] == "ret":
-                    if self.merge(self.exits, self.owner[place], state):
-                        waiting |= self.callers[self.owner[place]]
-                if instruction[0] == "call" and instruction[1] < len(self.code):
-                    self.callers[instruction[1]].add(begin)
-                for following, after in goes_to(self.layout, self.code, place, state, self.exits):
-                    if following in self.noted:
-                        if self.merge(self.notes, following, after):
-                            waiting.add(following)
-                    elif following < len(self.code):
-                        walk.append((following, after))
+        before = None
+        while before != (self.notes, self.exits):
+            before = (dict(self.notes), dict(self.exits))
+            self.once()
+
+
+def numbers_of(code_file):
+    layout, code = code_file
+    found = {0, 65535} | {region[3] for region in layout}
+    for place in reachable(code):
+        if code[place][0] in ("set", "below"):
+            found.add(code[place][2])
+            if code[place][0] == "below" and code[place][2] > 0:
+                found.add(code[place][2] - 1)
+    return found
 
 
 def annotate(code_file):
@@ -269,11 +262,9 @@ def walk_states(code_file, notes, exits):
         states.append(state)
         coming = None
         if state is not None:
-            for following, after in goes_to(layout, code, place, state, exits):
-                if following == place + 1 and code[place][0] not in ("jump",):
-                    # A call or a jump to the very next place needs a note there.
-                    if code[place][0] != "call" or after is exits.get(code[place][1]):
-                        coming = after
+            for _, after, named_one in goes_to(layout, code, place, state, exits):
+                if not named_one:
+                    coming = after
     return states
 
 
@@ -325,18 +316,18 @@ class Judge:
                     raise BadCode(place, "flow")
                 if greatest > region[3]:
                     raise BadCode(place, "range")
-        for following, after in goes_to(self.layout, self.code, place, state, self.exits):
-            self.check_way(place, following, after)
+        for following, after, named_one in goes_to(self.layout, self.code, place, state, self.exits):
+            self.check_way(place, following, after, named_one)
         if name == "ret":
             leaving = self.exits[self.owner[place]]
             if leaving is None or not state_fits(state, leaving):
                 raise BadCode(place, "note")
 
-    def check_way(self, place, following, after):
+    def check_way(self, place, following, after, named_one):
         instruction = self.code[place]
         if following >= len(self.code):
             raise BadCode(place, "place")
-        entering = instruction[0] == "call" and following == instruction[1]
+        entering = instruction[0] == "call" and named_one
         if entering and following not in self.exits or not entering and self.owner[following] != self.owner[place]:
             raise BadCode(place, "routine")
         if entering and self.levels[following] >= self.levels[self.owner[place]]:
@@ -344,7 +335,7 @@ class Judge:
         if following in self.notes:
             if not state_fits(after, self.notes[following]):
                 raise BadCode(place, "note")
-        elif following == named(instruction):
+        elif named_one:
             raise BadCode(place, "note")
 
     def loops(self):
@@ -379,8 +370,9 @@ class Judge:
             if least != greatest or fact[3] != least or fact[4] < 1 or self.other_store(p, t, z, least):
                 return None
             return region_of(self.layout, least, least)[3]
-        if instruction[0] == "add" and instruction[1] == instruction[2] != instruction[3]:
-            step = self.states[t][instruction[3]]
+        if instruction[0] == "add" and instruction[2] != instruction[3] and instruction[1] in instruction[2:]:
+            other = instruction[3] if instruction[1] == instruction[2] else instruction[2]
+            step = self.states[t][other]
             total = step[1] + self.states[t][instruction[1]][2]
             if step[1] != step[2] or step[1] < 1 or total > 65535:
                 return None

@@ -6,7 +6,7 @@ import inspect
 import pathlib
 import unittest
 
-from quietsmith.errors import BadText
+from quietsmith.errors import BadCode, BadText
 
 PACKAGE = pathlib.Path(__file__).resolve().parent.parent / "quietsmith"
 
@@ -28,6 +28,12 @@ FUNCTIONS = {
     "compiler": {"compile_program": ["program"]},
     "running": {"load": ["program", "binary", "values"], "outputs_of": ["program", "binary", "memory"],
                 "run_compiled": ["program", "values", "limit"]},
+    "facts": {"is_state": ["value"], "state_fits": ["state", "other"], "union": ["state", "other"]},
+    "transfer": {"next_state": ["layout", "state", "instruction"]},
+    "certificates": {"is_certificate": ["code_file", "value"]},
+    "annotate": {"annotate": ["code_file"]},
+    "judge": {"states_of": ["code_file", "certificate"], "check_code": ["code_file", "certificate"],
+              "judge": ["code_file"]},
 }
 CLASSES = {
     "errors": {"QuietError": None, "BadProgram": ["reason"], "BadText": ["index"], "BadInput": [],
@@ -99,6 +105,13 @@ class InterfaceTest(unittest.TestCase):
         r = block.add((0, 1), (2,), 2)
         known = run_rows(block.rows(), {0: 65535, 1: 3, 2: 1})
         self.assertEqual([known[k] for k in r], [0, 4])
+
+    def test_examples_of_the_judge(self):
+        from quietsmith.judge import judge
+        self.assertEqual(judge((((0, 4, "secret", 65535),), (
+            ("set", 2, 1), ("load", 3, 1, 0), ("add", 1, 1, 2), ("below", 1, 4, 1), ("halt",)))), 14)
+        with self.assertRaises(BadCode):
+            judge((((0, 4, "secret", 65535),), (("load", 3, 1, 0), ("below", 3, 5, 2), ("halt",))))
 
     def test_examples(self):
         from quietsmith.meaning import run_program

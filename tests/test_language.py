@@ -126,7 +126,9 @@ class LanguageTest(unittest.TestCase):
         for file in FILES:
             after[file.stem] = []
             for node in ast.walk(tree_of(file)):
-                if isinstance(node, ast.ImportFrom):
+                if isinstance(node, ast.ImportFrom) and node.module == "heapq":
+                    self.check_heaps(file, node)
+                elif isinstance(node, ast.ImportFrom):
                     self.assertEqual(node.level, 0)
                     self.assertRegex(node.module, r"^quietsmith\.[a-z]+$")
                     stem = node.module.split(".")[1]
@@ -142,6 +144,16 @@ class LanguageTest(unittest.TestCase):
             self.assertTrue(free, after)
             after = {stem: [other for other in after[stem] if other not in free]
                      for stem in after if stem not in free}
+
+    def check_heaps(self, file, node):
+        """The functions of heapq are called by their bare names, with a list and an item, and nothing else."""
+        names = [alias.name for alias in node.names]
+        self.assertLessEqual(set(names), {"heappush", "heappop"}, file)
+        calls = [inner for inner in ast.walk(tree_of(file)) if isinstance(inner, ast.Call)
+                 and isinstance(inner.func, ast.Name) and inner.func.id in names]
+        self.assertEqual([call.keywords for call in calls], [[]] * len(calls))
+        uses = [inner for inner in ast.walk(tree_of(file)) if isinstance(inner, ast.Name) and inner.id in names]
+        self.assertEqual(len(uses), len(calls), file)
 
     def test_names(self):
         for file in FILES:
