@@ -5,6 +5,7 @@ from quietsmith.expressions import PARTS, RANGES
 from quietsmith.values import is_integer, is_name, is_variable
 
 MOST_NODES = 500
+MOST_STATEMENTS = 24
 DEEPEST = 16
 LAST_TURN = 1023
 
@@ -79,7 +80,7 @@ def check_variables(value, least, greatest, nodes):
 
 def check_body(value, depth, nodes):
     """Looks at a body with statements of this depth."""
-    need_tuple(value, 0, 24)
+    need_tuple(value, 0, MOST_STATEMENTS)
     for statement in value:
         nodes.enter(depth)
         check_parts(statement, STATEMENT_PARTS.get(head_of(statement)), depth, nodes)

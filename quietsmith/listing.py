@@ -3,7 +3,7 @@
 from quietsmith.errors import BadText
 from quietsmith.instructions import MOST_INSTRUCTIONS, NUMBERS, is_instruction
 from quietsmith.layouts import MOST_REGIONS, is_region, region_end
-from quietsmith.tokens import is_digit
+from quietsmith.tokens import is_number
 
 # No number of a line is greater than 65535.
 MOST_DIGITS = 5
@@ -73,8 +73,4 @@ def read_instruction(words):
 
 def read_number(word):
     """Returns the number that a word tells, or -1, which has no place in a line."""
-    if not 1 <= len(word) <= MOST_DIGITS or not all(is_digit(letter) for letter in word):
-        return -1
-    if len(word) > 1 and word[0] == "0":
-        return -1
-    return int(word)
+    return int(word) if is_number(word, MOST_DIGITS) else -1

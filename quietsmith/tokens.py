@@ -44,9 +44,16 @@ def name_at(text, start):
 def number_at(text, start):
     """Returns the number that begins at the index."""
     token = run_at(text, start, is_digit)
-    if len(token) > LONGEST_NUMBER or (len(token) > 1 and token[0] == "0"):
+    if not is_number(token, LONGEST_NUMBER):
         raise BadText(start)
     return token
+
+
+def is_number(text, longest):
+    """Tells whether a text is a number of at most so many digits."""
+    if not 1 <= len(text) <= longest or not all(is_digit(character) for character in text):
+        return False
+    return len(text) == 1 or text[0] != "0"
 
 
 def run_at(text, start, fits):

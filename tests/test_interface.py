@@ -34,6 +34,10 @@ FUNCTIONS = {
     "annotate": {"annotate": ["code_file"]},
     "judge": {"states_of": ["code_file", "certificate"], "check_code": ["code_file", "certificate"],
               "judge": ["code_file"]},
+    "builders": {"power_program": ["m", "count"], "inverse_program": ["m"], "ladder_program": ["m", "a", "count"]},
+    "scripts": {"run_script": ["text"]},
+    "simplifying": {"simplify": ["program"]},
+    "tidying": {"tidy": ["code_file"]},
 }
 CLASSES = {
     "errors": {"QuietError": None, "BadProgram": ["reason"], "BadText": ["index"], "BadInput": [],
@@ -112,6 +116,12 @@ class InterfaceTest(unittest.TestCase):
             ("set", 2, 1), ("load", 3, 1, 0), ("add", 1, 1, 2), ("below", 1, 4, 1), ("halt",)))), 14)
         with self.assertRaises(BadCode):
             judge((((0, 4, "secret", 65535),), (("load", 3, 1, 0), ("below", 3, 5, 2), ("halt",))))
+
+    def test_examples_of_scripts(self):
+        from quietsmith.scripts import run_script
+        self.assertEqual(run_script(
+            "text fun f(secret x 9, public y 9) to (secret z 18) { z = (x + y); }\nmean 4 5\nmean 9 9")[1:],
+            ["means 9", "means 18"])
 
     def test_examples(self):
         from quietsmith.meaning import run_program
