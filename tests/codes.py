@@ -115,7 +115,8 @@ class Codes:
         """A certificate that differs a little."""
         routines, notes = list(certificate[0]), dict(certificate[1])
         kind = self.random.choice(("note", "note", "note", "drop", "add", "level", "exit", "cut", "begin"))
-        place = self.random.choice(sorted(notes))
+        place = self.random.choice(sorted(notes) or [0])
+        notes.setdefault(place, START)
         number = self.random.randrange(len(routines))
         first, level, leaving = routines[number]
         if kind == "note":
