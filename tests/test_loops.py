@@ -11,7 +11,7 @@ from quietsmith.machine import Machine
 from tests import judging
 from tests.codes import WIDEST, at, state_of
 from tests.helpers import refusal
-from tests.test_judge import CLEAR, HALT, LAYOUT, RET, JudgeCase, public
+from tests.judged import CLEAR, HALT, LAYOUT, RET, JudgeCase, public
 
 ONE = ("set", 2, 1)
 COUNT = ("add", 1, 1, 2)
