@@ -10,7 +10,7 @@ CARRY = 16
 # The cell and the plus of a fact that tells nothing of the memory.
 NO_CELL = (-1, 0)
 
-START = (("public", 0, 0, -1, 0),) * REGISTERS + ("public",)
+START = (("public", 0, 0, -1, 0),) * 16 + ("public",)
 
 
 def is_fact(value):

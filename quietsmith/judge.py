@@ -64,7 +64,7 @@ class Inspection:
                 self.check_registers(place, state, instruction)
                 self.check_memory(place, state, instruction)
                 self.check_target(place, state, instruction)
-                coming = self.state_behind(place, state, instruction)
+                coming = self.state_of_next(place, state, instruction)
 
     def check_registers(self, place, state, instruction):
         """Looks at the registers that everybody can watch."""
@@ -76,7 +76,8 @@ class Inspection:
         """Looks at the addresses of a load or a store, and at the word that is stored."""
         if instruction[0] not in ("load", "store"):
             return
-        region = safe_region(self.regions, *addresses(state, instruction))
+        first, last = addresses(state, instruction)
+        region = safe_region(self.regions, first, last)
         if region is None:
             raise BadCode(place, "address")
         flow, _, greatest, _, _ = state[instruction[1]]
@@ -119,7 +120,7 @@ class Inspection:
         if self.levels[first] >= self.levels[self.owners[place]]:
             raise BadCode(place, "level")
 
-    def state_behind(self, place, state, instruction):
+    def state_of_next(self, place, state, instruction):
         """Returns the state with which the instruction goes on, if it does, and looks at the next place."""
         after = state_behind(self.regions, state, instruction, self.exits)
         if after is None:

@@ -7,11 +7,11 @@ registers alone. If a stretch does not name these registers, their facts pass it
 from quietsmith.facts import CARRY, REGISTERS
 from quietsmith.instructions import GOES_AWAY, NUMBERS, targets
 from quietsmith.transfer import next_state
-from quietsmith.words import CARRYING
 
 # A short stretch names few registers.
 LONGEST = 32
-CARRY_NAMES = CARRYING + ("carry", "clear")
+# The names of the instructions that read or change the carry.
+CARRY_NAMES = ("add", "addc", "sub", "subc", "carry", "clear")
 
 
 def only_goes_on(instruction):

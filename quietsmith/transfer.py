@@ -54,18 +54,21 @@ def result_fact(layout, state, instruction):
     if name == "carry":
         return (state[CARRY], 0, 1, *NO_CELL)
     if name == "load":
-        return loaded_fact(layout, *addresses(state, instruction))
+        least, greatest = addresses(state, instruction)
+        return loaded_fact(layout, least, greatest)
     first = state[instruction[2]]
     if name == "move":
         return first
     if name in SHIFTS:
-        return (first[0], *shifted(name, first[1], first[2], instruction[3]), *NO_CELL)
+        least, greatest = shifted(name, first[1], first[2], instruction[3])
+        return (first[0], least, greatest, *NO_CELL)
     second = state[instruction[3]]
     flows = [first[0], second[0]]
     if name in CHAINED:
         flows.append(state[CARRY])
+    least, greatest = operated(name, first, second)
     cell = cell_of_sum(first, second) if name == "add" else NO_CELL
-    return (joined_flow(flows), *operated(name, first, second), *cell)
+    return (joined_flow(flows), least, greatest, *cell)
 
 
 def loaded_fact(layout, least, greatest):

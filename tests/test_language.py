@@ -102,6 +102,13 @@ class LanguageTest(unittest.TestCase):
                     self.assertIsInstance(node.right, ast.Constant, (file, node.lineno))
                     self.assertLessEqual(node.right.value, 64)
 
+    def test_stars_in_calls(self):
+        for file in FILES:
+            for node in ast.walk(tree_of(file)):
+                for argument in node.args if isinstance(node, ast.Call) else []:
+                    if isinstance(argument, ast.Starred):
+                        self.assertIsInstance(argument.value, (ast.Name, ast.Tuple, ast.List), (file, node.lineno))
+
     def test_module_level(self):
         for file in FILES:
             names = []
