@@ -59,7 +59,6 @@ class Inspection:
         for place, instruction in enumerate(self.code):
             state = self.notes.get(place, coming)
             self.states.append(state)
-            coming = None
             if state is not None:
                 self.check_registers(place, state, instruction)
                 self.check_memory(place, state, instruction)

@@ -68,6 +68,8 @@ class PlaceTest(JudgeCase):
         self.refused(1, "flow", ("load", 1, 0, 0), ("store", 1, 0, 4), HALT)
         self.taken(3, ("load", 1, 0, 0), ("store", 1, 0, 3), HALT)
         self.taken(3, ("load", 1, 0, 4), ("store", 1, 0, 3), HALT)
+        # What a register had before a load does not matter.
+        self.taken(3, ("load", 1, 0, 0), ("load", 1, 0, 4), HALT)
         self.refused(1, "range", ("set", 1, 10), ("store", 1, 0, 4), HALT)
         self.taken(3, ("set", 1, 9), ("store", 1, 0, 4), HALT)
         self.refused(2, "range", ("load", 1, 0, 4), ("add", 1, 1, 1), ("store", 1, 0, 5), HALT)

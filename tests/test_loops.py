@@ -65,6 +65,12 @@ class RegisterTest(JudgeCase):
         self.refused(3, "loop", ("load", 2, 0, 4), ONE, CLEAR, ("below", 1, 9, 1), HALT)
         self.taken(21, ("load", 2, 0, 4), ONE, COUNT, ("below", 1, 9, 2), HALT)
 
+        # One of several words, none of which is 0.
+        self.refused(3, "loop", ("load", 2, 0, 4), ("below", 2, 1, 4), COUNT, ("below", 1, 9, 2), HALT)
+        # The sum of two other registers, one of which is 1.
+        self.refused(2, "loop", *with_part(self.PLAIN, 1, ("add", 1, 2, 3)))
+        self.refused(2, "loop", *with_part(self.PLAIN, 1, ("add", 1, 3, 2)))
+
     def test_the_sum(self):
         self.refused(2, "loop", ONE, COUNT, ("jump", 1))
         self.taken(2 * 65534 + 2, ("set", 2, 2), COUNT, ("below", 1, 65534, 1), HALT)

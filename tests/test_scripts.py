@@ -8,7 +8,7 @@ from quietsmith.errors import BadScript, QuietError
 from quietsmith.judge import judge
 from quietsmith.layouts import layout_end
 from quietsmith.running import run_compiled
-from quietsmith.scripts import run_script
+from quietsmith.scripts import first_difference, run_script
 from quietsmith.syntax import parse_program
 from quietsmith.values import MOST
 from tests.compiled import run
@@ -97,6 +97,13 @@ class CommandsTest(ScriptCase):
         self.behind(TURNS, ("watch 0 | 1", f"other {step}"), ("watch 1 | 0", f"other {step}"),
                     ("watch 1 | 1", f"same {len(second)}"), ("watch 0 | 0", f"same {len(first)}"))
         self.assertLess(step, min(len(first), len(second)))
+
+    def test_the_first_difference(self):
+        self.assertEqual(first_difference([1, 2, 3], [1, 2, 3]), 0)
+        self.assertEqual(first_difference([1, 2, 3], [1, 5, 3]), 2)
+        self.assertEqual(first_difference([1, 2, 3], [1, 2]), 3)
+        self.assertEqual(first_difference([1], [1, 2, 3]), 2)
+        self.assertEqual(first_difference([], []), 0)
 
     def shown(self, text, inputs):
         program = parse_program(text)

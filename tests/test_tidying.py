@@ -154,6 +154,15 @@ class JumpsTest(TidyCase):
                      (below(2), ("jump", 3), ("jump", 1), RET))
         self.stays(below(2), below(3), ("jump", 1), HALT)
 
+        self.stays(("jump", 2), CLEAR, below(1), ("jump", 0))
+
+    def test_jumps_that_are_not_needed_any_more(self):
+        """All jumps go on to the last place, so the jump between is not reached."""
+        first = (below(3), ("below", 2, 5, 5), ("jump", 4), HALT, ("jump", 6), CLEAR, RET)
+        self.becomes(first, (below(3), ("below", 2, 5, 4), ("jump", 5), HALT, CLEAR, RET))
+        first = (below(3), ("below", 2, 5, 5), below(4), HALT, ("jump", 6), CLEAR, RET)
+        self.becomes(first, (below(3), ("below", 2, 5, 4), below(5), HALT, CLEAR, RET))
+
     def test_circles(self):
         self.stays(("jump", 0))
         self.stays(below(2), ("jump", 0), ("jump", 1))
