@@ -67,23 +67,26 @@ class Annotation:
         self.callers = {first: {} for first in self.firsts}
         self.queue = []
         self.queued = {}
+        self.walked = {}
 
     def complete(self):
         """Makes all notes and exits."""
         self.reach_note(0, START)
         while len(self.queue) > 0:
-            place = heappop(self.queue)
+            _, place = heappop(self.queue)
             del self.queued[place]
+            self.walked[place] = True
             self.walk(place)
 
     def queue_up(self, place):
         """Makes sure that the way from a place on is walked once more."""
         if place not in self.queued:
             self.queued[place] = True
-            heappush(self.queue, place)
+            # New ways come first: they can change what many old ones begin with.
+            heappush(self.queue, (1 if place in self.walked else 0, place))
 
     def walk(self, place):
-        """Goes from a place that can have a note, or is behind a call, up to the next place that can have one."""
+        """Goes from a place that can have a note, or is behind a call, up to the next such place."""
         state = self.notes[place] if place in self.notable else self.exits[self.code[place - 1][1]]
         while state is not None and place < len(self.code):
             end = self.stretches.ends[place]
@@ -93,6 +96,8 @@ class Annotation:
             else:
                 instruction = self.code[place]
                 self.leave(place, state, instruction)
+                if instruction[0] == "call":
+                    return
                 state = state_behind(self.regions, state, instruction, self.exits)
                 place += 1
             if place in self.notable and state is not None:
@@ -106,9 +111,23 @@ class Annotation:
         for target in targets(instruction):
             after = state_at_target(state, instruction)
             if target < len(self.code) and after is not None:
-                if instruction[0] == "call":
-                    self.callers[target][place] = True
                 self.reach_note(target, after)
+                if instruction[0] == "call":
+                    self.add_caller(target, place)
+
+    def add_caller(self, first, place):
+        """Remembers that a routine is called from a place that has a state."""
+        if place not in self.callers[first]:
+            self.callers[first][place] = True
+            if first in self.exits:
+                self.come_back(place + 1, self.exits[first])
+
+    def come_back(self, place, state):
+        """Goes to a place behind a call with the exit of the routine."""
+        if place in self.notable:
+            self.reach_note(place, state)
+        elif place < len(self.code):
+            self.queue_up(place)
 
     def reach_note(self, place, state):
         """Makes the state fit the note of the place."""
@@ -124,11 +143,7 @@ class Annotation:
             return
         self.exits[first] = wider
         for caller in self.callers[first]:
-            place = caller + 1
-            if place in self.notable:
-                self.reach_note(place, wider)
-            elif place < len(self.code):
-                self.queue_up(place)
+            self.come_back(caller + 1, wider)
 
     def widened(self, known, state):
         """Returns the least round state that fits both; None if this is the known one, which is round."""

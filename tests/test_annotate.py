@@ -11,6 +11,7 @@ from tests.codes import SECRET, Codes, at, state_of
 LAYOUT = ((0, 4, "secret", 65535), (4, 2, "public", 9), (6, 1, "public", 40))
 HALT = ("halt",)
 RET = ("ret",)
+CLEAR = ("clear",)
 STRAIGHT = ("set", "add", "add", "addc", "sub", "move", "load", "load", "store", "carry", "clear", "and", "up", "down")
 
 
@@ -300,6 +301,16 @@ class LongCodesTest(unittest.TestCase):
         routines, _ = self.annotated(code + [("set", 2, 1), RET])
         self.assertEqual(len(routines), 6665)
         self.assertEqual(routines[0][2][1], public(0, 65535))
+
+    def test_many_callers(self):
+        """Each one calls with another word in a register; the routine lies behind them, or before them."""
+        calls = [("set", 1, number // 2) if number % 2 == 0 else ("call", 12001) for number in range(12000)]
+        routines, notes = self.annotated(calls + [HALT, CLEAR, RET])
+        self.assertEqual((len(routines), notes[-1]), (2, (12001, state_of({1: public(0, 5999)}))))
+        calls = [one if one[0] == "set" else ("call", 1) for one in calls]
+        routines, notes = self.annotated([("jump", 3), CLEAR, RET] + calls + [HALT])
+        self.assertEqual(notes[1], (1, state_of({1: public(0, 5999)})))
+        self.assertEqual(routines[1], (1, 16, state_of({1: public(0, 5999)})))
 
     def test_a_long_loop_with_many_numbers(self):
         code = [("set", 1, 0), ("set", 2, 1)] + [("load", 4, 0, 17)] * 19990 + [("add", 1, 1, 2), ("below", 1, 256, 2)]

@@ -110,6 +110,19 @@ class RegisterTest(JudgeCase):
         code = (("call", 4), ("add", 1, 1, 2), ("below", 1, 9, 1), HALT, ("set", 2, 1), RET)
         self.taken(1 + 2 + 18 + 1, *code)
 
+    def test_calls_behind_inner_loops(self):
+        inner = ("set", 3, 0), ("add", 3, 3, 2), ("below", 3, 4, 2)
+        code = (ONE, *inner, CLEAR, COUNT, ("below", 1, 9, 1), HALT, RET)
+        self.taken(1 + 9 * (1 + 2 * 4 + 3) + 1, *code)
+        self.refused(6, "loop", *with_part(code, 4, ("call", 8)))
+
+    def test_each_register(self):
+        for reg in (0, 7, 15):
+            step = 1 if reg == 15 else reg + 1
+            plain = (("set", step, 1), ("add", reg, reg, step), ("below", reg, 9, 1), HALT)
+            self.taken(20, *plain)
+            self.refused(3, "loop", plain[0], ("set", reg, 0), plain[1], ("below", reg, 9, 1), HALT)
+
     def test_a_wider_certificate(self):
         """The bound is that of the certificate, not the least one."""
         routines, notes = annotate((LAYOUT, self.AHEAD))
@@ -158,6 +171,20 @@ class MemoryTest(JudgeCase):
         self.refused(7, "loop", *code, layout=layout)
         self.taken(1 + 70, ("set", 3, 1), *code[1:], layout=layout)
 
+    def test_one_of_several_addresses(self):
+        """The register has the word at the first address, but the store need not go there."""
+        layout = ((0, 1, "public", 1), (4, 2, "public", 9))
+        code = (("load", 3, 0, 0), ("load", 1, 0, 4), ("below", 1, 9, 4), HALT, ONE, COUNT, ("store", 1, 3, 4), ("jump", 1))
+        self.refused(7, "loop", *code, layout=layout)
+        self.taken(71, ("set", 3, 0), *code[1:], layout=layout)
+
+    def test_stores_at_other_addresses(self):
+        store = ("store", 3, 0, 4)
+        code = (("set", 3, 4), ("load", 1, 0, 5), ("below", 1, 9, 4), HALT, store, store, ONE, COUNT, store, store,
+                ("store", 1, 0, 5), ("jump", 1))
+        self.taken(1 + 10 * 11, *code)
+        self.refused(11, "loop", *with_part(code, 4, ("store", 3, 0, 5)))
+
     def test_another_store_in_the_loop(self):
         self.refused(8, "loop", ("store", 0, 0, 5), *[one[:-1] + (one[-1] + 1,) if one[0] in ("below", "jump") else one
                                                     for one in self.LOOP[:7]], ("jump", 0))
@@ -200,6 +227,13 @@ class MemoryTest(JudgeCase):
             self.refused(8, "loop", *calling, ("load", 3, 0, 0), ("store", 0, 3, d), RET, layout=layout)
         self.taken(10 * (8 + 3) + 1, *calling, ("load", 3, 0, 0), ("store", 0, 3, 6), RET,
                    layout=((0, 1, "public", 1), (4, 4, "public", 9)))
+
+    def test_calls_behind_other_loops(self):
+        first = (("set", 3, 0), ONE, ("add", 3, 3, 2), ("below", 3, 4, 2))
+        code = (*first, ("call", 14), ("load", 1, 0, 5), ("below", 1, 9, 9), ("jump", 13), CLEAR, ONE, COUNT,
+                ("store", 1, 0, 5), ("jump", 4), HALT)
+        self.taken(2 + 8 + 10 * (8 + 2) + 1, *code, ("store", 0, 0, 4), RET)
+        self.refused(12, "loop", *code, ("store", 0, 0, 5), RET)
 
     def test_routines_that_are_called_elsewhere(self):
         code = (("call", 10), ("load", 1, 0, 5), ("below", 1, 9, 5), ("jump", 9), CLEAR, ONE, COUNT,
