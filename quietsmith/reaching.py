@@ -18,8 +18,9 @@ def reachable(code):
     found[0] = True
     waiting = [0]
     while len(waiting) > 0:
-        for place in places_behind(code, waiting.pop()):
-            if not found[place]:
-                found[place] = True
-                waiting.append(place)
+        place = waiting.pop()
+        for following in places_behind(code, place):
+            if not found[following]:
+                found[following] = True
+                waiting.append(following)
     return found
